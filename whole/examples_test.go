@@ -7,44 +7,25 @@ import (
 	"testing"
 
 	"metewand/api"
+	"metewand/internal/outcome"
 	"metewand/whole"
 )
 
-// shown writes results as the chapter's table does: the results, or the name of the error.
-func shown(e api.Errno, results ...string) string {
-	switch e {
-	case api.OK:
-		return strings.Join(results, ", ")
-	case api.ErrForm:
-		return "ErrForm"
-	case api.ErrValue:
-		return "ErrValue"
-	case api.ErrZero:
-		return "ErrZero"
-	case api.ErrLarge:
-		return "ErrLarge"
-	}
-	return e.Error()
-}
+func one(s string, e api.Errno) string { return outcome.Of(e, s) }
 
-func one(s string, e api.Errno) string { return shown(e, s) }
+func two(q, r string, e api.Errno) string { return outcome.Of(e, q, r) }
 
-func two(q, r string, e api.Errno) string { return shown(e, q, r) }
+func three(g, x, y string, e api.Errno) string { return outcome.Of(e, g, x, y) }
 
-func three(g, x, y string, e api.Errno) string { return shown(e, g, x, y) }
-
-func order(n int, e api.Errno) string { return shown(e, strconv.Itoa(n)) }
+func order(n int, e api.Errno) string { return outcome.Of(e, strconv.Itoa(n)) }
 
 func check(a string) string {
-	if e := whole.Check(a); e != api.OK {
-		return shown(e)
-	}
-	return "OK"
+	return outcome.Name(whole.Check(a))
 }
 
 func primes(a string) string {
 	l, e := whole.Factor(a)
-	return shown(e, strings.Join(l, " "))
+	return outcome.Of(e, strings.Join(l, " "))
 }
 
 // row compares the results of a row of the chapter's table.

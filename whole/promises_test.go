@@ -8,6 +8,7 @@ import (
 	"testing"
 
 	"metewand/api"
+	"metewand/internal/byhand"
 	"metewand/whole"
 )
 
@@ -32,7 +33,7 @@ func TestP1_01Check(t *testing.T) {
 		"0" + over: api.ErrForm, over + "x": api.ErrForm, "-0" + over: api.ErrForm, strings.Repeat("0", 401): api.ErrForm,
 	} {
 		if got := whole.Check(a); got != want {
-			t.Errorf("Check(%s) = %d, want %d", preview(a), got, want)
+			t.Errorf("Check(%s) = %d, want %d", byhand.Preview(a), got, want)
 		}
 	}
 }
@@ -48,13 +49,13 @@ func TestP1_01Compare(t *testing.T) {
 				want = 1
 			}
 			if got := compare(t, a, b); got != want {
-				t.Errorf("Compare(%s, %s) = %d, want %d", preview(a), preview(b), got, want)
+				t.Errorf("Compare(%s, %s) = %d, want %d", byhand.Preview(a), byhand.Preview(b), got, want)
 			}
 		}
 	}
 	pairs(1, 400, func(a, b string) {
-		if got := compare(t, a, b); got != compareByHand(a, b) {
-			t.Errorf("Compare(%s, %s) = %d", preview(a), preview(b), got)
+		if got := compare(t, a, b); got != byhand.Compare(a, b) {
+			t.Errorf("Compare(%s, %s) = %d", byhand.Preview(a), byhand.Preview(b), got)
 		}
 	})
 }
@@ -67,11 +68,11 @@ func TestP1_02ByHand(t *testing.T) {
 			name string
 			of   func(a, b string) (string, api.Errno)
 			due  string
-		}{{"Add", whole.Add, addByHand(a, b)}, {"Sub", whole.Sub, addByHand(a, minus(b))}, {"Mul", whole.Mul, mulByHand(a, b)}} {
+		}{{"Add", whole.Add, byhand.Add(a, b)}, {"Sub", whole.Sub, byhand.Add(a, byhand.Minus(b))}, {"Mul", whole.Mul, byhand.Mul(a, b)}} {
 			got, e := x.of(a, b)
 			want, f := fits(x.due)
 			if got != want || e != f {
-				t.Errorf("%s(%s, %s) = %s, %d, want %s, %d", x.name, preview(a), preview(b), preview(got), e, preview(want), f)
+				t.Errorf("%s(%s, %s) = %s, %d, want %s, %d", x.name, byhand.Preview(a), byhand.Preview(b), byhand.Preview(got), e, byhand.Preview(want), f)
 			}
 		}
 	})
@@ -98,14 +99,14 @@ func TestP1_03ByHand(t *testing.T) {
 			return
 		}
 		if e != api.OK || f != api.OK || sumOfProducts(q, b, r, "1") != a || sumOfProducts(p, b, s, "1") != a {
-			t.Errorf("%s by %s: %s and %s, %d; %s and %s, %d", preview(a), preview(b), preview(q), preview(r), e, preview(p), preview(s), f)
+			t.Errorf("%s by %s: %s and %s, %d; %s and %s, %d", byhand.Preview(a), byhand.Preview(b), byhand.Preview(q), byhand.Preview(r), e, byhand.Preview(p), byhand.Preview(s), f)
 		}
 		// The remainder shows the law of rounding.
-		if compareByHand(amount(r), amount(b)) >= 0 || r != "0" && negative(r) != negative(b) {
-			t.Errorf("Floor(%s, %s): remainder %s", preview(a), preview(b), preview(r))
+		if byhand.Compare(byhand.Amount(r), byhand.Amount(b)) >= 0 || r != "0" && byhand.Negative(r) != byhand.Negative(b) {
+			t.Errorf("Floor(%s, %s): remainder %s", byhand.Preview(a), byhand.Preview(b), byhand.Preview(r))
 		}
-		if compareByHand(amount(s), amount(b)) >= 0 || s != "0" && negative(s) != negative(a) {
-			t.Errorf("Quo(%s, %s): remainder %s", preview(a), preview(b), preview(s))
+		if byhand.Compare(byhand.Amount(s), byhand.Amount(b)) >= 0 || s != "0" && byhand.Negative(s) != byhand.Negative(a) {
+			t.Errorf("Quo(%s, %s): remainder %s", byhand.Preview(a), byhand.Preview(b), byhand.Preview(s))
 		}
 	})
 }
@@ -125,22 +126,22 @@ func checkGcd(t *testing.T, a, b string) {
 	g, x, y, e := whole.Gcd(a, b)
 	switch {
 	case e != api.OK:
-		t.Fatalf("Gcd(%s, %s): error %d", preview(a), preview(b), e)
-	case b == "0" && (g != amount(a) || y != "0" || x != strconv.Itoa(compareByHand(a, "0"))):
-		t.Errorf("Gcd(%s, 0) = %s, %s, %s", preview(a), preview(g), x, y)
-	case sumOfProducts(a, x, b, y) != g || negative(g):
-		t.Errorf("Gcd(%s, %s) = %s, %s, %s", preview(a), preview(b), preview(g), preview(x), preview(y))
+		t.Fatalf("Gcd(%s, %s): error %d", byhand.Preview(a), byhand.Preview(b), e)
+	case b == "0" && (g != byhand.Amount(a) || y != "0" || x != strconv.Itoa(byhand.Compare(a, "0"))):
+		t.Errorf("Gcd(%s, 0) = %s, %s, %s", byhand.Preview(a), byhand.Preview(g), x, y)
+	case sumOfProducts(a, x, b, y) != g || byhand.Negative(g):
+		t.Errorf("Gcd(%s, %s) = %s, %s, %s", byhand.Preview(a), byhand.Preview(b), byhand.Preview(g), byhand.Preview(x), byhand.Preview(y))
 	case b == "0":
 		return
 	}
 	for _, n := range []string{a, b} {
 		if _, r, e := whole.Quo(n, g); r != "0" || e != api.OK {
-			t.Errorf("Gcd(%s, %s) = %s, which does not divide %s", preview(a), preview(b), preview(g), preview(n))
+			t.Errorf("Gcd(%s, %s) = %s, which does not divide %s", byhand.Preview(a), byhand.Preview(b), byhand.Preview(g), byhand.Preview(n))
 		}
 	}
 	// x can be changed by multiples of b/g alone.
-	if step, _, _ := whole.Quo(amount(b), g); negative(x) || compareByHand(x, step) >= 0 {
-		t.Errorf("Gcd(%s, %s): x is %s", preview(a), preview(b), preview(x))
+	if step, _, _ := whole.Quo(byhand.Amount(b), g); byhand.Negative(x) || byhand.Compare(x, step) >= 0 {
+		t.Errorf("Gcd(%s, %s): x is %s", byhand.Preview(a), byhand.Preview(b), byhand.Preview(x))
 	}
 }
 
@@ -155,12 +156,12 @@ func TestP1_04Factors(t *testing.T) {
 
 func TestP1_04CommonDivisors(t *testing.T) {
 	pairs(5, 133, func(a, b string) {
-		seed := chance(len(a) + 7*len(b))
-		c := amount(seed.number(1 + seed.below(200)))
-		checkGcd(t, mulByHand(a, c), mulByHand(b, c))
+		seed := byhand.Chance(len(a) + 7*len(b))
+		c := byhand.Amount(seed.Number(1 + seed.Below(200)))
+		checkGcd(t, byhand.Mul(a, c), byhand.Mul(b, c))
 		g, _, _, _ := whole.Gcd(a, b)
-		if h, _, _, _ := whole.Gcd(mulByHand(a, c), mulByHand(b, c)); h != mulByHand(g, c) {
-			t.Errorf("Gcd of %s and %s times %s is %s", preview(a), preview(b), preview(c), preview(h))
+		if h, _, _, _ := whole.Gcd(byhand.Mul(a, c), byhand.Mul(b, c)); h != byhand.Mul(g, c) {
+			t.Errorf("Gcd of %s and %s times %s is %s", byhand.Preview(a), byhand.Preview(b), byhand.Preview(c), byhand.Preview(h))
 		}
 	})
 }
@@ -190,9 +191,9 @@ func TestP1_05Pow(t *testing.T) {
 			got, e := whole.Pow(a, n)
 			want, f := fits(due)
 			if got != want || e != f {
-				t.Errorf("Pow(%s, %d) = %s, %d, want %s, %d", a, n, preview(got), e, preview(want), f)
+				t.Errorf("Pow(%s, %d) = %s, %d, want %s, %d", a, n, byhand.Preview(got), e, byhand.Preview(want), f)
 			}
-			due = mulByHand(due, a)
+			due = byhand.Mul(due, a)
 		}
 	}
 }
@@ -207,15 +208,15 @@ func TestP1_05PowLimits(t *testing.T) {
 }
 
 func TestP1_05PowMod(t *testing.T) {
-	seed := chance(6)
+	seed := byhand.Chance(6)
 	for range 60 {
-		a, m := seed.number(1+seed.below(60)), amount(seed.number(1+seed.below(60)))
+		a, m := seed.Number(1+seed.Below(60)), byhand.Amount(seed.Number(1+seed.Below(60)))
 		for n, due := 0, "1"; n < 25; n++ {
 			_, want, _ := whole.Floor(must(t)(whole.Add(due, "0")), m)
 			if got := must(t)(whole.PowMod(a, strconv.Itoa(n), m)); got != want {
 				t.Errorf("PowMod(%s, %d, %s) = %s, want %s", a, n, m, got, want)
 			}
-			_, due, _ = whole.Floor(mulByHand(want, a), m)
+			_, due, _ = whole.Floor(byhand.Mul(want, a), m)
 		}
 	}
 }
@@ -246,17 +247,17 @@ func checkRoot(t *testing.T, a string, n int) {
 	r := must(t)(whole.Root(a, n))
 	power, above := "1", "1"
 	for range n {
-		power, above = mulByHand(power, r), mulByHand(above, addByHand(r, "1"))
+		power, above = byhand.Mul(power, r), byhand.Mul(above, byhand.Add(r, "1"))
 	}
-	if negative(r) || compareByHand(power, a) > 0 || compareByHand(above, a) <= 0 {
-		t.Errorf("Root(%s, %d) = %s", preview(a), n, preview(r))
+	if byhand.Negative(r) || byhand.Compare(power, a) > 0 || byhand.Compare(above, a) <= 0 {
+		t.Errorf("Root(%s, %d) = %s", byhand.Preview(a), n, byhand.Preview(r))
 	}
 }
 
 func TestP1_06Root(t *testing.T) {
 	for n := 1; n <= 20; n++ {
-		for _, a := range append(samples(chance(n), 60), nines, tens) {
-			checkRoot(t, amount(a), n)
+		for _, a := range append(samples(byhand.Chance(n), 60), nines, tens) {
+			checkRoot(t, byhand.Amount(a), n)
 		}
 		for a := range 70 {
 			checkRoot(t, strconv.Itoa(a), n)
@@ -264,7 +265,7 @@ func TestP1_06Root(t *testing.T) {
 	}
 	for _, n := range []int{2, 3, 7, 20} {
 		for _, a := range samples(7, 400) {
-			checkRoot(t, amount(a), n)
+			checkRoot(t, byhand.Amount(a), n)
 		}
 	}
 }
@@ -290,13 +291,13 @@ func TestP1_06Limits(t *testing.T) {
 // digitsOf returns the digits of a in the base by divisions of whole numbers by hand.
 func digitsOf(t *testing.T, a string, base int) string {
 	t.Helper()
-	text, rest := "", amount(a)
+	text, rest := "", byhand.Amount(a)
 	for rest != "0" || text == "" {
 		q, r, _ := whole.Floor(rest, strconv.Itoa(base))
 		n, _ := strconv.Atoi(r)
 		text, rest = strconv.FormatInt(int64(n), base)+text, q
 	}
-	if negative(a) {
+	if byhand.Negative(a) {
 		return "-" + text
 	}
 	return text
@@ -304,14 +305,14 @@ func digitsOf(t *testing.T, a string, base int) string {
 
 func TestP1_07Base(t *testing.T) {
 	for base := 2; base <= 36; base++ {
-		for _, a := range samples(chance(base), 90) {
+		for _, a := range samples(byhand.Chance(base), 90) {
 			want := digitsOf(t, a, base)
 			row(t, []string{one(whole.Base(a, base)), one(whole.FromBase(want, base))}, want, a)
 		}
 		// Powers of the base, and the numbers beside them, have zeros and greatest digits.
 		power := must(t)(whole.Pow(strconv.Itoa(base), 70))
 		last := strconv.FormatInt(int64(base-1), base)
-		row(t, []string{one(whole.Base(power, base)), one(whole.Base(must(t)(whole.Sub(power, "1")), base)), one(whole.FromBase("-1"+strings.Repeat("0", 70), base))}, "1"+strings.Repeat("0", 70), strings.Repeat(last, 70), minus(power))
+		row(t, []string{one(whole.Base(power, base)), one(whole.Base(must(t)(whole.Sub(power, "1")), base)), one(whole.FromBase("-1"+strings.Repeat("0", 70), base))}, "1"+strings.Repeat("0", 70), strings.Repeat(last, 70), byhand.Minus(power))
 	}
 }
 

@@ -8,6 +8,7 @@ import (
 	"testing"
 
 	"metewand/api"
+	"metewand/internal/byhand"
 	"metewand/whole"
 )
 
@@ -23,11 +24,11 @@ func outcomes(a, b, c string, n int) []string {
 
 // TestP1NoPanic is the promise P1: each function returns, whatever its arguments are.
 func TestP1NoPanic(t *testing.T) {
-	seed := chance(31)
+	seed := byhand.Chance(31)
 	for _, a := range odd() {
 		for _, b := range odd() {
 			for _, n := range []int{math.MinInt, -1, 0, 1, 2, 20, 36, 37, 1000, 1001, math.MaxInt} {
-				outcomes(a, b, odd()[seed.below(len(odd()))], n)
+				outcomes(a, b, odd()[seed.Below(len(odd()))], n)
 			}
 		}
 	}
@@ -86,8 +87,8 @@ func TestR3(t *testing.T) {
 
 // TestR2 is that nothing is remembered between calls, and that calls at the same time do not disturb each other.
 func TestR2(t *testing.T) {
-	seed := chance(32)
-	a, b, c := seed.number(400), seed.number(390), amount(seed.number(380))
+	seed := byhand.Chance(32)
+	a, b, c := seed.Number(400), seed.Number(390), byhand.Amount(seed.Number(380))
 	want := outcomes(a, b, c, 7)
 	var all sync.WaitGroup
 	for range 8 {

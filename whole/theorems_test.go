@@ -5,15 +5,16 @@ import (
 	"testing"
 
 	"metewand/api"
+	"metewand/internal/byhand"
 	"metewand/whole"
 )
 
 // triples calls check with triples of samples of up to so many digits.
-func triples(seed chance, most int, check func(a, b, c string)) {
+func triples(seed byhand.Chance, most int, check func(a, b, c string)) {
 	list := samples(seed, most)
 	for _, a := range list {
 		for range 10 {
-			check(a, list[seed.below(len(list))], list[seed.below(len(list))])
+			check(a, list[seed.Below(len(list))], list[seed.Below(len(list))])
 		}
 	}
 }
@@ -40,16 +41,16 @@ func TestP1_10Division(t *testing.T) {
 		for _, divide := range []func(a, b string) (string, string, api.Errno){whole.Floor, whole.Quo} {
 			q, r, e := divide(a, b)
 			if e != api.OK || must(t)(whole.Add(must(t)(whole.Mul(q, b)), r)) != a {
-				t.Errorf("%s by %s: %s and %s, %d", preview(a), preview(b), preview(q), preview(r), e)
+				t.Errorf("%s by %s: %s and %s, %d", byhand.Preview(a), byhand.Preview(b), byhand.Preview(q), byhand.Preview(r), e)
 			}
-			if compare(t, amount(r), amount(b)) >= 0 {
-				t.Errorf("%s by %s: the remainder %s is too large", preview(a), preview(b), preview(r))
+			if compare(t, byhand.Amount(r), byhand.Amount(b)) >= 0 {
+				t.Errorf("%s by %s: the remainder %s is too large", byhand.Preview(a), byhand.Preview(b), byhand.Preview(r))
 			}
 		}
 		_, r, _ := whole.Floor(a, b)
 		_, s, _ := whole.Quo(a, b)
-		if r != "0" && negative(r) != negative(b) || s != "0" && negative(s) != negative(a) {
-			t.Errorf("%s by %s: remainders %s and %s", preview(a), preview(b), preview(r), preview(s))
+		if r != "0" && byhand.Negative(r) != byhand.Negative(b) || s != "0" && byhand.Negative(s) != byhand.Negative(a) {
+			t.Errorf("%s by %s: remainders %s and %s", byhand.Preview(a), byhand.Preview(b), byhand.Preview(r), byhand.Preview(s))
 		}
 	})
 }
@@ -60,16 +61,16 @@ func TestP1_11Order(t *testing.T) {
 	triples(23, 199, func(a, b, c string) {
 		ab := compare(t, a, b)
 		if compare(t, b, a) != -ab || (ab == 0) != (a == b) {
-			t.Errorf("Compare(%s, %s) = %d", preview(a), preview(b), ab)
+			t.Errorf("Compare(%s, %s) = %d", byhand.Preview(a), byhand.Preview(b), ab)
 		}
 		if bc := compare(t, b, c); ab <= 0 && bc <= 0 && compare(t, a, c) > min(0, max(ab, bc)) {
-			t.Errorf("%s, %s and %s are not in order", preview(a), preview(b), preview(c))
+			t.Errorf("%s, %s and %s are not in order", byhand.Preview(a), byhand.Preview(b), byhand.Preview(c))
 		}
 		if compare(t, must(t)(whole.Add(a, c)), must(t)(whole.Add(b, c))) != ab {
-			t.Errorf("%s and %s: the order changes with %s added", preview(a), preview(b), preview(c))
+			t.Errorf("%s and %s: the order changes with %s added", byhand.Preview(a), byhand.Preview(b), byhand.Preview(c))
 		}
-		if p := amount(c); p != "0" && compare(t, must(t)(whole.Mul(a, p)), must(t)(whole.Mul(b, p))) != ab {
-			t.Errorf("%s and %s: the order changes with %s multiplied", preview(a), preview(b), preview(p))
+		if p := byhand.Amount(c); p != "0" && compare(t, must(t)(whole.Mul(a, p)), must(t)(whole.Mul(b, p))) != ab {
+			t.Errorf("%s and %s: the order changes with %s multiplied", byhand.Preview(a), byhand.Preview(b), byhand.Preview(p))
 		}
 	})
 }
@@ -86,7 +87,7 @@ func TestP1_12Divisor(t *testing.T) {
 			return
 		}
 		if _, r, e := whole.Quo(g, c); r != "0" || e != api.OK {
-			t.Errorf("%s divides %s and %s, but not %s", preview(c), preview(x), preview(y), preview(g))
+			t.Errorf("%s divides %s and %s, but not %s", byhand.Preview(c), byhand.Preview(x), byhand.Preview(y), byhand.Preview(g))
 		}
 	})
 }
@@ -110,10 +111,10 @@ func TestP1_13Powers(t *testing.T) {
 	}
 	triples(25, 400, func(a, b, c string) {
 		// Powers with exponents of many digits multiply by their sum, too.
-		n, m := amount(b)[:min(9, len(amount(b)))], amount(a)[:min(9, len(amount(a)))]
-		by := must(t)(whole.Add(amount(c)[:min(190, len(amount(c)))], "1"))
+		n, m := byhand.Amount(b)[:min(9, len(byhand.Amount(b)))], byhand.Amount(a)[:min(9, len(byhand.Amount(a)))]
+		by := must(t)(whole.Add(byhand.Amount(c)[:min(190, len(byhand.Amount(c)))], "1"))
 		get := func(n string) string { return must(t)(whole.PowMod(a, n, by)) }
-		_, r, _ := whole.Floor(mulByHand(get(n), get(m)), by)
+		_, r, _ := whole.Floor(byhand.Mul(get(n), get(m)), by)
 		row(t, []string{get(must(t)(whole.Add(n, m)))}, r)
 	})
 }
@@ -123,12 +124,12 @@ func TestP1_13Powers(t *testing.T) {
 func TestP1_14Root(t *testing.T) {
 	for _, a := range samples(26, 399) {
 		for n := 1; n <= 20; n++ {
-			r := must(t)(whole.Root(amount(a), n))
-			if compare(t, must(t)(whole.Pow(r, n)), amount(a)) > 0 {
-				t.Errorf("Root(%s, %d) = %s: too large", preview(a), n, preview(r))
+			r := must(t)(whole.Root(byhand.Amount(a), n))
+			if compare(t, must(t)(whole.Pow(r, n)), byhand.Amount(a)) > 0 {
+				t.Errorf("Root(%s, %d) = %s: too large", byhand.Preview(a), n, byhand.Preview(r))
 			}
-			if s, e := whole.Pow(must(t)(whole.Add(r, "1")), n); e == api.OK && compare(t, s, amount(a)) <= 0 {
-				t.Errorf("Root(%s, %d) = %s: too small", preview(a), n, preview(r))
+			if s, e := whole.Pow(must(t)(whole.Add(r, "1")), n); e == api.OK && compare(t, s, byhand.Amount(a)) <= 0 {
+				t.Errorf("Root(%s, %d) = %s: too small", byhand.Preview(a), n, byhand.Preview(r))
 			}
 		}
 	}
@@ -138,7 +139,7 @@ func TestP1_14Root(t *testing.T) {
 
 func TestP1_15Digits(t *testing.T) {
 	for base := 2; base <= 36; base++ {
-		for _, a := range samples(chance(100+base), 400) {
+		for _, a := range samples(byhand.Chance(100+base), 400) {
 			s := must(t)(whole.Base(a, base))
 			row(t, []string{one(whole.FromBase(s, base)), one(whole.Base(must(t)(whole.FromBase(s, base)), base))}, a, s)
 		}
