@@ -1,12 +1,15 @@
 package ratio
 
-import "metewand/api"
+import (
+	"metewand/api"
+	"metewand/internal/failure"
+)
 
 // between returns the simplest number that is greater than n and less than m.
 func (n number) between(m number) number {
 	switch {
 	case n.compare(m) >= 0:
-		throw(api.ErrOrder)
+		failure.Throw(api.ErrOrder)
 	case !n.negative():
 		return n.simplest(m)
 	case m.negative() || m.isZero():

@@ -5,6 +5,7 @@ import (
 	"iter"
 
 	"metewand/api"
+	"metewand/internal/failure"
 )
 
 // digits goes through the digits behind the point of a number that is not less than 0, and less than 1, each one with the number whose first digit it is. There is no end.
@@ -76,7 +77,7 @@ func (w *writer) put(digits []byte) {
 
 func (n number) decimal(places int) string {
 	if places < 0 || places > api.RatioPlaces {
-		throw(api.ErrValue)
+		failure.Throw(api.ErrValue)
 	}
 	x := n.amount().mixed()
 	text := []byte(x.floor)
@@ -128,7 +129,7 @@ looking:
 		case part.isZero():
 			break looking
 		case len(text) == api.RatioTerms:
-			throw(api.ErrLarge)
+			failure.Throw(api.ErrLarge)
 		}
 		met[part] = len(text)
 		text = append(text, digit)

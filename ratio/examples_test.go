@@ -1,7 +1,6 @@
 package ratio_test
 
 import (
-	"slices"
 	"strconv"
 	"strings"
 	"testing"
@@ -11,22 +10,11 @@ import (
 	"metewand/ratio"
 )
 
-// q returns the number that is written as s, with or without a slash, whether it is valid or not.
-func q(s string) api.Rat {
-	num, den, slash := strings.Cut(s, "/")
-	if !slash {
-		den = "1"
-	}
-	return api.Rat{Num: num, Den: den}
-}
-
-// written writes a number, and nothing for the zero value.
-func written(a api.Rat) string {
-	if a.Den == "1" || a == (api.Rat{}) {
-		return a.Num
-	}
-	return a.Num + "/" + a.Den
-}
+var (
+	q       = outcome.Number
+	written = outcome.Written
+	row     = outcome.Row
+)
 
 func check(s string) string { return outcome.Name(ratio.Check(q(s))) }
 
@@ -39,14 +27,6 @@ func two(front, period string, e api.Errno) string { return outcome.Of(e, front,
 func order(n int, e api.Errno) string { return outcome.Of(e, strconv.Itoa(n)) }
 
 func list(l []string, e api.Errno) string { return outcome.Of(e, strings.Join(l, " ")) }
-
-// row compares the results of a row of the chapter's table.
-func row(t *testing.T, got []string, want ...string) {
-	t.Helper()
-	if !slices.Equal(got, want) {
-		t.Errorf("got %q, want %q", got, want)
-	}
-}
 
 func TestExampleCheck(t *testing.T) {
 	row(t, []string{check("-3/2"), check("2/4"), check("1/0"), check("0/2"), check("1/-2")}, "OK", "ErrForm", "ErrForm", "ErrForm", "ErrForm")

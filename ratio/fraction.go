@@ -5,6 +5,7 @@ import (
 	"slices"
 
 	"metewand/api"
+	"metewand/internal/failure"
 	"metewand/whole"
 )
 
@@ -30,16 +31,16 @@ func appended(list []string, terms ...string) []string {
 func ofFraction(terms []string) number {
 	switch {
 	case len(terms) == 0:
-		throw(api.ErrFew)
+		failure.Throw(api.ErrFew)
 	case len(terms) > api.RatioTerms:
-		throw(api.ErrMany)
+		failure.Throw(api.ErrMany)
 	}
 	for _, term := range terms {
 		must(term, whole.Check(term))
 	}
 	for _, term := range terms[1:] {
 		if term == "0" || negative(term) {
-			throw(api.ErrValue)
+			failure.Throw(api.ErrValue)
 		}
 	}
 	return ofTerms(terms)

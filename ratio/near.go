@@ -4,6 +4,7 @@ import (
 	"strconv"
 
 	"metewand/api"
+	"metewand/internal/failure"
 )
 
 // nearest keeps the nearest of all that it was offered.
@@ -52,7 +53,7 @@ func (x approach) nearer(y approach) bool {
 func (n number) near(most int) number {
 	switch {
 	case most < 1 || most > api.RatioDen:
-		throw(api.ErrValue)
+		failure.Throw(api.ErrValue)
 	case order(n.Den, strconv.Itoa(most)) <= 0:
 		return n
 	case n.negative():

@@ -2,6 +2,7 @@ package ratio
 
 import (
 	"metewand/api"
+	"metewand/internal/failure"
 	"metewand/whole"
 )
 
@@ -17,11 +18,11 @@ func valid(a api.Rat) number {
 	num, den := whole.Check(a.Num), whole.Check(a.Den)
 	switch {
 	case num == api.ErrForm, den == api.ErrForm, negative(a.Den), a.Den == "0":
-		throw(api.ErrForm)
+		failure.Throw(api.ErrForm)
 	case num != api.OK, den != api.OK:
-		throw(api.ErrLarge)
+		failure.Throw(api.ErrLarge)
 	case a.Den != "1" && gcd(a.Num, a.Den) != "1":
-		throw(api.ErrForm)
+		failure.Throw(api.ErrForm)
 	}
 	return number{a}
 }
@@ -39,7 +40,7 @@ func quotient(p, q string) number {
 	}
 	switch {
 	case q == "0":
-		throw(api.ErrZero)
+		failure.Throw(api.ErrZero)
 	case negative(q):
 		p, q = negated(p), negated(q)
 	}

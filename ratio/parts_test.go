@@ -1,7 +1,6 @@
 package ratio
 
 import (
-	"errors"
 	"slices"
 	"strconv"
 	"strings"
@@ -9,6 +8,7 @@ import (
 
 	"metewand/api"
 	"metewand/internal/byhand"
+	"metewand/internal/failure"
 )
 
 // fractions returns all numbers from -2 to 2 with denominators of at most so many.
@@ -84,38 +84,18 @@ func TestDigits(t *testing.T) {
 // TestSideBySide: both ways return the same, and the error of the numerator first.
 func TestSideBySide(t *testing.T) {
 	text := func() string { return "7" }
-	zero := func() string { throw(api.ErrZero); return "" }
-	large := func() string { throw(api.ErrLarge); return "" }
+	zero := func() string { failure.Throw(api.ErrZero); return "" }
+	large := func() string { failure.Throw(api.ErrLarge); return "" }
 	fault := func() string { panic("x") }
 	for _, short := range []bool{true, false} {
 		for _, x := range []struct {
 			num, den func() string
 			want     api.Errno
 		}{{text, text, api.OK}, {zero, text, api.ErrZero}, {text, large, api.ErrLarge}, {zero, large, api.ErrZero}, {large, zero, api.ErrLarge}, {text, fault, api.ErrLimit}} {
-			n, e := guarded(func() number { return sideBySide(short, x.num, x.den) })
+			n, e := failure.Guarded(func() number { return sideBySide(short, x.num, x.den) })
 			if e != x.want || (n == of("7", "7")) != (e == api.OK) {
 				t.Error(short, n, e, x.want)
 			}
-		}
-	}
-}
-
-// TestGuarded: no panic leaves a function, and an error comes without a result.
-func TestGuarded(t *testing.T) {
-	var list []int
-	for name, x := range map[string]struct {
-		work func() string
-		want api.Errno
-	}{
-		"nothing":     {func() string { return "x" }, api.OK},
-		"an error":    {func() string { throw(api.ErrOrder); return "x" }, api.ErrOrder},
-		"another":     {func() string { panic(errors.New("x")) }, api.ErrLimit},
-		"the machine": {func() string { return string(rune(list[3])) }, api.ErrLimit},
-		"no error":    {func() string { panic("x") }, api.ErrLimit},
-	} {
-		s, e := guarded(x.work)
-		if e != x.want || (s != "") != (e == api.OK) {
-			t.Error(name, s, e)
 		}
 	}
 }

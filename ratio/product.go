@@ -4,6 +4,7 @@ import (
 	"sync"
 
 	"metewand/api"
+	"metewand/internal/failure"
 )
 
 // mostPower is the greatest exponent of Pow.
@@ -21,7 +22,7 @@ func (n number) times(m number) number {
 
 func (n number) over(m number) number {
 	if m.isZero() {
-		throw(api.ErrZero)
+		failure.Throw(api.ErrZero)
 	}
 	return n.times(m.inverse())
 }
@@ -29,9 +30,9 @@ func (n number) over(m number) number {
 func (n number) power(exponent int) number {
 	switch {
 	case exponent < -mostPower || exponent > mostPower:
-		throw(api.ErrValue)
+		failure.Throw(api.ErrValue)
 	case exponent < 0 && n.isZero():
-		throw(api.ErrZero)
+		failure.Throw(api.ErrZero)
 	case exponent < 0:
 		return n.inverse().power(-exponent)
 	}
@@ -60,7 +61,7 @@ func sideBySide(short bool, num, den func() string) number {
 		workers.Add(1)
 		go func() {
 			defer workers.Done()
-			text, e := guarded(work)
+			text, e := failure.Guarded(work)
 			done <- side{place, text, e}
 		}()
 	}

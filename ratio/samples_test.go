@@ -17,6 +17,13 @@ var (
 	fives = "4" + strings.Repeat("9", 399)
 )
 
+var (
+	reduced    = byhand.Reduced
+	negated    = byhand.Negated
+	plusByHand = byhand.Plus
+	fits       = byhand.Fits
+)
+
 // get returns a function that returns a result, or ends the test if there is an error.
 func get(t *testing.T) func(a api.Rat, e api.Errno) api.Rat {
 	return func(a api.Rat, e api.Errno) api.Rat {
@@ -41,34 +48,9 @@ func preview(a api.Rat) string {
 	return byhand.Preview(a.Num) + "/" + byhand.Preview(a.Den)
 }
 
-// negated returns a with the other sign, by hand.
-func negated(a api.Rat) api.Rat {
-	return api.Rat{Num: byhand.Minus(a.Num), Den: a.Den}
-}
-
-// reduced returns num/den in lowest terms, by hand; den is greater than 0.
-func reduced(num, den string) api.Rat {
-	common := byhand.Gcd(den, byhand.Amount(num))
-	p, _ := byhand.Divide(byhand.Amount(num), common)
-	q, _ := byhand.Divide(den, common)
-	if byhand.Negative(num) {
-		p = byhand.Minus(p)
-	}
-	return api.Rat{Num: p, Den: q}
-}
-
-func fits(a api.Rat) bool {
-	return len(byhand.Amount(a.Num)) <= api.Digits && len(a.Den) <= api.Digits
-}
-
 // compareByHand compares the products across.
 func compareByHand(a, b api.Rat) int {
 	return byhand.Compare(byhand.Mul(a.Num, b.Den), byhand.Mul(b.Num, a.Den))
-}
-
-// plusByHand returns the sum, not in lowest terms.
-func plusByHand(a, b api.Rat) (num, den string) {
-	return byhand.Add(byhand.Mul(a.Num, b.Den), byhand.Mul(b.Num, a.Den)), byhand.Mul(a.Den, b.Den)
 }
 
 // due reports a result that is not num/den in lowest terms, or an error where there is a result. (Den may be less than 0.)

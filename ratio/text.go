@@ -4,6 +4,7 @@ import (
 	"strings"
 
 	"metewand/api"
+	"metewand/internal/failure"
 	"metewand/whole"
 )
 
@@ -56,7 +57,7 @@ func parsed(s string) number {
 		return ofDecimal(r.minus != "", front, behind)
 	case '/':
 		if behind == "1" {
-			throw(api.ErrForm)
+			failure.Throw(api.ErrForm)
 		}
 		return valid(api.Rat{Num: r.minus + front, Den: behind})
 	}
@@ -68,7 +69,7 @@ func ofDecimal(minus bool, front, behind string) number {
 	e := whole.Check(front)
 	places := len(behind)
 	if e == api.ErrForm || negative(front) || places < 1 || places > api.RatioPlaces || strings.Trim(behind, "0123456789") != "" {
-		throw(api.ErrForm)
+		failure.Throw(api.ErrForm)
 	}
 	must(front, e)
 	num := strings.TrimLeft(behind[:places-1], "0") + behind[places-1:]

@@ -2,15 +2,14 @@ package ratio
 
 import (
 	"metewand/api"
+	"metewand/internal/failure"
 	"metewand/whole"
 )
 
 // The functions below are those of layer 1, which throw their error. They get valid numbers, so that this is ErrLarge.
 
 func must(a string, e api.Errno) string {
-	if e != api.OK {
-		throw(e)
-	}
+	failure.Check(e)
 	return a
 }
 
@@ -45,9 +44,7 @@ func divided(a, b string) string {
 // order returns -1, 0 or 1 if a is less than b, equal to it, or greater.
 func order(a, b string) int {
 	n, e := whole.Compare(a, b)
-	if e != api.OK {
-		throw(e)
-	}
+	failure.Check(e)
 	return n
 }
 

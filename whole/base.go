@@ -5,6 +5,7 @@ import (
 	"slices"
 
 	"metewand/api"
+	"metewand/internal/failure"
 )
 
 const (
@@ -16,7 +17,7 @@ const (
 
 func checkBase(base int) {
 	if base < leastBase || base > greatestBase {
-		throw(api.ErrValue)
+		failure.Throw(api.ErrValue)
 	}
 }
 
@@ -69,11 +70,11 @@ func (x natural) digitsIn(base int) iter.Seq[int] {
 func fromBase(s string, base int) string {
 	checkBase(base)
 	if !wellFormed(s, base) {
-		throw(api.ErrForm)
+		failure.Throw(api.ErrForm)
 	}
 	minus, digits := signOf(s)
 	if len(digits) > mostDigits {
-		throw(api.ErrLarge)
+		failure.Throw(api.ErrLarge)
 	}
 	return signed(minus, naturalIn(digits, base)).text()
 }

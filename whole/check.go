@@ -4,6 +4,7 @@ import (
 	"strings"
 
 	"metewand/api"
+	"metewand/internal/failure"
 )
 
 // kind says what a string is as a whole number; a greater kind of those that are valid needs more room.
@@ -40,9 +41,9 @@ func valid(numbers ...string) kind {
 		k := kindOf(a)
 		switch k {
 		case formless:
-			throw(api.ErrForm)
+			failure.Throw(api.ErrForm)
 		case endless:
-			throw(api.ErrLarge)
+			failure.Throw(api.ErrLarge)
 		}
 		widest = max(widest, k)
 	}

@@ -1,6 +1,9 @@
 package whole
 
-import "metewand/api"
+import (
+	"metewand/api"
+	"metewand/internal/failure"
+)
 
 // over returns the quotient, rounded down, and the remainder; y is not 0.
 func (x natural) over(y natural) (quotient, remainder natural) {
@@ -87,7 +90,7 @@ func (window natural) giveBack(divisor natural) {
 func divided(a, b string, ofSmall func(s, t small) (q, r small), ofLong func(n, m number) (q, r number)) [2]string {
 	widest := valid(a, b)
 	if b == "0" {
-		throw(api.ErrZero)
+		failure.Throw(api.ErrZero)
 	}
 	if widest == short {
 		q, r := ofSmall(smallOf(a), smallOf(b))

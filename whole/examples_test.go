@@ -1,7 +1,6 @@
 package whole_test
 
 import (
-	"slices"
 	"strconv"
 	"strings"
 	"testing"
@@ -10,6 +9,8 @@ import (
 	"metewand/internal/outcome"
 	"metewand/whole"
 )
+
+var row = outcome.Row
 
 func one(s string, e api.Errno) string { return outcome.Of(e, s) }
 
@@ -26,14 +27,6 @@ func check(a string) string {
 func primes(a string) string {
 	l, e := whole.Factor(a)
 	return outcome.Of(e, strings.Join(l, " "))
-}
-
-// row compares the results of a row of the chapter's table.
-func row(t *testing.T, got []string, want ...string) {
-	t.Helper()
-	if !slices.Equal(got, want) {
-		t.Errorf("got %q, want %q", got, want)
-	}
 }
 
 func TestExampleCheck(t *testing.T) {

@@ -1,15 +1,18 @@
 package whole
 
-import "metewand/api"
+import (
+	"metewand/api"
+	"metewand/internal/failure"
+)
 
 func factors(a string) []string {
 	widest := valid(a)
 	minus, _ := signOf(a)
 	if minus.negative() || a == "0" {
-		throw(api.ErrValue)
+		failure.Throw(api.ErrValue)
 	}
 	if widest == long || smallOf(a) > api.WholeFactor {
-		throw(api.ErrLarge)
+		failure.Throw(api.ErrLarge)
 	}
 	return smallOf(a).primes()
 }

@@ -4,6 +4,7 @@ import (
 	"sync"
 
 	"metewand/api"
+	"metewand/internal/failure"
 )
 
 // Products of two numbers of at least sideBySide limbs each are computed in parts of partLimbs limbs; smaller ones are done before goroutines would have begun.
@@ -87,7 +88,7 @@ func (x natural) power(n, most int) natural {
 			result = multiplied(result, result)
 		}
 		if result.digits() > most {
-			throw(api.ErrLarge)
+			failure.Throw(api.ErrLarge)
 		}
 	}
 	return result

@@ -4,6 +4,7 @@ import (
 	"cmp"
 
 	"metewand/api"
+	"metewand/internal/failure"
 )
 
 // sign is true for numbers less than 0.
@@ -35,7 +36,7 @@ func signed(s sign, limbs natural) number {
 // text throws ErrLarge if the number has too many digits.
 func (n number) text() string {
 	if n.limbs.digits() > api.Digits {
-		throw(api.ErrLarge)
+		failure.Throw(api.ErrLarge)
 	}
 	if n.negative() {
 		return "-" + n.limbs.text()

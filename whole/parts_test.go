@@ -1,11 +1,8 @@
 package whole
 
 import (
-	"errors"
 	"strings"
 	"testing"
-
-	"metewand/api"
 )
 
 // TestParts: a product that is found side by side is that of the rows.
@@ -98,26 +95,6 @@ func TestDigitsIn(t *testing.T) {
 	}
 	if read != 34 || x.text() != "123456789012345678901234567890" {
 		t.Error(read, x.text())
-	}
-}
-
-// TestGuarded: no panic leaves a function, and an error comes without a result.
-func TestGuarded(t *testing.T) {
-	var list []int
-	for name, x := range map[string]struct {
-		work func() string
-		want api.Errno
-	}{
-		"nothing":     {func() string { return "x" }, api.OK},
-		"an error":    {func() string { throw(api.ErrZero); return "x" }, api.ErrZero},
-		"another":     {func() string { panic(errors.New("x")) }, api.ErrLimit},
-		"the machine": {func() string { return string(rune(list[3])) }, api.ErrLimit},
-		"no error":    {func() string { panic("x") }, api.ErrLimit},
-	} {
-		s, e := guarded(x.work)
-		if e != x.want || (s != "") != (e == api.OK) {
-			t.Error(name, s, e)
-		}
 	}
 }
 

@@ -1,11 +1,14 @@
 package whole
 
-import "metewand/api"
+import (
+	"metewand/api"
+	"metewand/internal/failure"
+)
 
 func pow(a string, n int) string {
 	valid(a)
 	if n < 0 || n > api.WholePower {
-		throw(api.ErrValue)
+		failure.Throw(api.ErrValue)
 	}
 	base := numberOf(a)
 	odd := sign(n%2 == 1)
@@ -17,7 +20,7 @@ func powMod(a, n, m string) string {
 	minus, exponent := signOf(n)
 	modulus := numberOf(m)
 	if minus.negative() || modulus.negative() || len(modulus.limbs) == 0 {
-		throw(api.ErrValue)
+		failure.Throw(api.ErrValue)
 	}
 	_, base := numberOf(a).floored(modulus)
 	return number{limbs: base.limbs.powerMod(exponent, modulus.limbs)}.text()
@@ -48,7 +51,7 @@ func root(a string, n int) string {
 	valid(a)
 	value := numberOf(a)
 	if n < 1 || n > api.WholeRoot || value.negative() {
-		throw(api.ErrValue)
+		failure.Throw(api.ErrValue)
 	}
 	return number{limbs: value.limbs.root(n)}.text()
 }

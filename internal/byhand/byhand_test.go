@@ -24,6 +24,9 @@ func TestByHand(t *testing.T) {
 		if b == 0 {
 			continue
 		}
+		if x := Reduced(Minus(text(a)), text(b)); Mul(x.Num, text(b)) != Mul(x.Den, text(-a)) || Gcd(Amount(x.Num), x.Den) != "1" {
+			t.Fatal(a, b, x)
+		}
 		if q, r := Divide(text(a), text(b)); q != text(a/b) || r != text(a%b) {
 			t.Fatal(a, b, q, r)
 		}

@@ -16,3 +16,39 @@ func TestOf(t *testing.T) {
 		}
 	}
 }
+
+func TestPlain(t *testing.T) {
+	for _, s := range []string{"0", "-7", "-3/2", "2/4", "x/0", "1/2/3", ""} {
+		if got := Written(Number(s)); got != s {
+			t.Errorf("%q is %q", s, got)
+		}
+	}
+	for _, s := range []string{"", "m", "kg m^2 s^-3/2", "s m^0 M^1/0"} {
+		if got := WrittenDim(Dim(s)); got != s {
+			t.Errorf("%q is %q", s, got)
+		}
+	}
+	if s := Written(api.Rat{}) + WrittenDim(nil); s != "" {
+		t.Error(s)
+	}
+}
+
+// reports counts what is reported.
+type reports int
+
+func (r *reports) Helper()               {}
+func (r *reports) Errorf(string, ...any) { *r++ }
+
+func TestRow(t *testing.T) {
+	n := new(reports)
+	Row(n, []string{"1", "2"}, "1", "2")
+	Row(n, nil)
+	if *n != 0 {
+		t.Error(*n)
+	}
+	Row(n, []string{"1", "2"}, "1")
+	Row(n, []string{"1"}, "2")
+	if *n != 2 {
+		t.Error(*n)
+	}
+}
