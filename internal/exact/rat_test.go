@@ -1,0 +1,93 @@
+package exact
+
+import (
+	"strings"
+	"testing"
+
+	"metewand/api"
+	"metewand/internal/byhand"
+)
+
+// is tells whether a is num/den, and in lowest terms.
+func is(a Rat, num, den string) bool {
+	want := byhand.Reduced(num, den)
+	return a.num.text() == byhand.Amount(want.Num) && a.minus == byhand.Negative(want.Num) && a.below().text() == want.Den
+}
+
+func rats(seed byhand.Chance) []api.Rat {
+	all := []api.Rat{{Num: "0", Den: "1"}, {Num: "1", Den: "1"}, {Num: "-1", Den: "1"}, {Num: "1", Den: "2"}, {Num: "-3", Den: "2"}, {Num: "18446744073709551616", Den: "18446744073709551615"}}
+	for range 30 {
+		common := byhand.Add(byhand.Amount(seed.Number(1+seed.Below(30))), "1")
+		num, den := seed.Number(1+seed.Below(60)), byhand.Add(byhand.Amount(seed.Number(1+seed.Below(60))), "1")
+		all = append(all, byhand.Reduced(byhand.Mul(num, common), byhand.Mul(den, common)), byhand.Reduced(num, common))
+	}
+	return all
+}
+
+func TestArithmetic(t *testing.T) {
+	all := rats(11)
+	for _, x := range all {
+		a := Of(x)
+		if !is(a.Negated(), byhand.Minus(x.Num), x.Den) || a.IsZero() != (x.Num == "0") {
+			t.Error(x)
+		}
+		for _, y := range all {
+			b := Of(y)
+			sum, product := fraction(byhand.Plus(x, y)), fraction(byhand.Times(x, y))
+			difference := fraction(byhand.Plus(x, byhand.Negated(y)))
+			if !is(a.Plus(b), sum.Num, sum.Den) || !is(a.Minus(b), difference.Num, difference.Den) || !is(a.Times(b), product.Num, product.Den) {
+				t.Fatal(x, y)
+			}
+			num, den := byhand.Mul(x.Num, y.Den), byhand.Mul(x.Den, y.Num)
+			if byhand.Negative(den) {
+				num, den = byhand.Minus(num), byhand.Minus(den)
+			}
+			if !b.IsZero() && !is(a.Over(b), num, den) {
+				t.Fatal(x, y)
+			}
+		}
+	}
+}
+
+func fraction(num, den string) api.Rat { return api.Rat{Num: num, Den: den} }
+
+func TestZero(t *testing.T) {
+	zero, one := Rat{}, One()
+	two := one.Plus(one)
+	for i, x := range []struct {
+		a    Rat
+		want string
+	}{
+		{zero, "0/1"}, {zero.Negated(), "0/1"}, {zero.Plus(zero), "0/1"}, {zero.Minus(one), "-1/1"}, {one.Minus(one), "0/1"}, {zero.Times(two), "0/1"}, {two.Times(zero.Negated()), "0/1"}, {zero.Over(two.Negated()), "0/1"}, {one.Over(two.Negated()), "-1/2"}, {one.Over(two).Plus(one.Over(two)), "1/1"}, {Of(api.Rat{Num: "0", Den: "1"}), "0/1"},
+	} {
+		if got, e := x.a.Plain(); got.Num+"/"+got.Den != x.want || e != api.OK || x.a.IsZero() != (x.want == "0/1") {
+			t.Error(i, got, e)
+		}
+	}
+}
+
+// TestPlain has numbers of 400 and of 401 digits, and much longer ones on the way.
+func TestPlain(t *testing.T) {
+	nines, tens := strings.Repeat("9", 400), "1"+strings.Repeat("0", 399)
+	for _, a := range []api.Rat{{Num: "0", Den: "1"}, {Num: "-7", Den: "3"}, {Num: nines, Den: "1"}, {Num: "-" + nines, Den: tens}, {Num: "-1", Den: nines}} {
+		if got, e := Of(a).Plain(); got != a || e != api.OK {
+			t.Error(byhand.Preview(a.Num), byhand.Preview(a.Den), e)
+		}
+	}
+	long, ten := Of(api.Rat{Num: nines, Den: "1"}), Of(api.Rat{Num: "10", Den: "1"})
+	for i, a := range []Rat{long.Plus(One()), long.Negated().Minus(One()), One().Over(long.Plus(One())), long.Times(ten), long.Over(ten.Times(long).Times(ten)).Over(long), long.Times(long).Times(long)} {
+		if got, e := a.Plain(); got != (api.Rat{}) || e != api.ErrLarge {
+			t.Error(i, byhand.Preview(got.Num), e)
+		}
+	}
+	power := One()
+	for range 40 {
+		power = power.Times(long)
+	}
+	for range 39 {
+		power = power.Over(long)
+	}
+	if got, e := power.Plain(); got.Num != nines || got.Den != "1" || e != api.OK {
+		t.Error(byhand.Preview(got.Num), e)
+	}
+}
