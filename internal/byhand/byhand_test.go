@@ -32,3 +32,10 @@ func TestByHand(t *testing.T) {
 		}
 	}
 }
+
+func TestLimits(t *testing.T) {
+	nines, tens, over := Limits()
+	if Add(nines, "1") != over || Mul(tens, "10") != over || len(nines) != 400 || len(over) != 401 {
+		t.Error(nines, tens, over)
+	}
+}

@@ -1,6 +1,10 @@
 package byhand
 
-import "metewand/api"
+import (
+	"strings"
+
+	"metewand/api"
+)
 
 // Reduced returns num/den in lowest terms; den is greater than 0.
 func Reduced(num, den string) api.Rat {
@@ -31,4 +35,10 @@ func Times(a, b api.Rat) (num, den string) {
 // Fits tells whether neither part of a number has too many digits.
 func Fits(a api.Rat) bool {
 	return len(Amount(a.Num)) <= api.Digits && len(a.Den) <= api.Digits
+}
+
+// Limits returns the greatest whole number that layer 1 has, the least one with as many digits, and one with a digit more.
+func Limits() (nines, tens, over string) {
+	zeros := strings.Repeat("0", api.Digits)
+	return strings.Repeat("9", api.Digits), "1" + zeros[1:], "1" + zeros
 }

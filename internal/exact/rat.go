@@ -62,6 +62,18 @@ func (a Rat) Plain() (api.Rat, api.Errno) {
 	return api.Rat{Num: num, Den: den}, api.OK
 }
 
+// Text returns the number as a text, however many digits it has. Equal numbers have equal texts.
+func (a Rat) Text() string {
+	text := a.num.text()
+	if a.minus {
+		text = "-" + text
+	}
+	if below := a.below(); !below.isOne() {
+		text += "/" + below.text()
+	}
+	return text
+}
+
 // IsZero tells whether a is 0.
 func (a Rat) IsZero() bool { return len(a.num) == 0 }
 

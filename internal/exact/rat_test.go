@@ -91,3 +91,23 @@ func TestPlain(t *testing.T) {
 		t.Error(byhand.Preview(got.Num), e)
 	}
 }
+
+// TestRatText: equal numbers have equal texts, also where they have too many digits to be returned.
+func TestRatText(t *testing.T) {
+	for _, x := range rats(12) {
+		want := x.Num
+		if x.Den != "1" {
+			want += "/" + x.Den
+		}
+		if got := Of(x).Text(); got != want {
+			t.Error(got, want)
+		}
+	}
+	long := Of(api.Rat{Num: "-1" + strings.Repeat("0", 399), Den: "1"})
+	zeros := strings.Repeat("0", 798)
+	for want, got := range map[string]Rat{"0": long.Minus(long), "1": long.Over(long), "-1/" + long.Text()[1:]: One().Over(long), "1" + zeros: long.Times(long), "1/1" + zeros: One().Over(long).Over(long)} {
+		if got.Text() != want {
+			t.Error(byhand.Preview(got.Text()), byhand.Preview(want))
+		}
+	}
+}

@@ -23,3 +23,20 @@ func Of(e api.Errno, results ...string) string {
 	}
 	return strings.Join(results, ", ")
 }
+
+// ender is a test that may be ended.
+type ender interface {
+	Helper()
+	Fatal(args ...any)
+}
+
+// Must returns a function that returns a result, or ends the test if there is an error.
+func Must[T any](t ender) func(x T, e api.Errno) T {
+	return func(x T, e api.Errno) T {
+		t.Helper()
+		if e != api.OK {
+			t.Fatal(Name(e))
+		}
+		return x
+	}
+}

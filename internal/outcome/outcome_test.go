@@ -38,6 +38,7 @@ type reports int
 
 func (r *reports) Helper()               {}
 func (r *reports) Errorf(string, ...any) { *r++ }
+func (r *reports) Fatal(...any)          { *r++ }
 
 func TestRow(t *testing.T) {
 	n := new(reports)
@@ -49,6 +50,17 @@ func TestRow(t *testing.T) {
 	Row(n, []string{"1", "2"}, "1")
 	Row(n, []string{"1"}, "2")
 	if *n != 2 {
+		t.Error(*n)
+	}
+}
+
+func TestMust(t *testing.T) {
+	n := new(reports)
+	if x := Must[string](n)("1", api.OK); x != "1" || *n != 0 {
+		t.Error(x, *n)
+	}
+	Must[string](n)("", api.ErrForm)
+	if *n != 1 {
 		t.Error(*n)
 	}
 }
