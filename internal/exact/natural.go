@@ -198,6 +198,29 @@ func (x natural) divided(y natural) natural {
 	return quotient
 }
 
+// root returns the greatest number whose square is not greater than x, by Newton's way: from a number that is not less, guesses go down to it.
+func (x natural) root() natural {
+	if len(x) == 0 {
+		return nil
+	}
+	size := len(x)*64 - bits.LeadingZeros64(x[len(x)-1])
+	guess := powerOfTwo((size + 1) / 2)
+	for {
+		quotient, _ := x.over(guess)
+		next, _ := guess.plus(quotient).overWord(2)
+		if next.compare(guess) >= 0 {
+			return guess
+		}
+		guess = next
+	}
+}
+
+func powerOfTwo(n int) natural {
+	z := make(natural, n/64+1)
+	z[n/64] = 1 << (n % 64)
+	return z
+}
+
 // Decimal digits are read and written in chunks.
 const (
 	chunkDigits = 19

@@ -158,6 +158,24 @@ func TestForesee(t *testing.T) {
 	}
 }
 
+// TestNaturalRoot has squares, and their neighbours.
+func TestNaturalRoot(t *testing.T) {
+	one := natural{1}
+	for _, x := range naturals(6) {
+		square := x.times(x)
+		for _, y := range []natural{x, square, square.plus(one), square.plus(x).plus(x), square.plus(x).plus(x).plus(one)} {
+			root := y.root()
+			next := root.plus(one)
+			if root.times(root).compare(y) > 0 || next.times(next).compare(y) <= 0 {
+				t.Fatalf("%s: %s", y.text(), root.text())
+			}
+		}
+		if square.root().compare(x) != 0 {
+			t.Fatalf("%s: %s", square.text(), square.root().text())
+		}
+	}
+}
+
 // TestUnchanged: no operation changes the words of a number.
 func TestUnchanged(t *testing.T) {
 	x, y := naturalOf("123456789012345678901234567890123456789012345678901234567890"), naturalOf("98765432109876543210987654321098765432109876543210")
@@ -169,6 +187,7 @@ func TestUnchanged(t *testing.T) {
 	x.gcd(y)
 	x.scaled(7, 7)
 	x.shifted(7)
+	x.root()
 	if x.text() != a || y.text() != b {
 		t.Error(x.text(), y.text())
 	}

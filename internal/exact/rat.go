@@ -23,7 +23,16 @@ func Of(a api.Rat) Rat {
 }
 
 // One returns the number 1.
-func One() Rat { return Rat{num: natural{1}} }
+func One() Rat { return Whole(1) }
+
+// Whole returns the number that n is.
+func Whole(n int) Rat {
+	size := uint64(n)
+	if n < 0 {
+		size = -size
+	}
+	return made(n < 0, natural{size}.trimmed(), nil)
+}
 
 // made returns the number whose numerator and denominator have no common divisor.
 func made(minus bool, num, den natural) Rat {
@@ -77,6 +86,20 @@ func (a Rat) Text() string {
 // IsZero tells whether a is 0.
 func (a Rat) IsZero() bool { return len(a.num) == 0 }
 
+// Compare returns -1 if a is less than b, 0 if they are equal, and 1 if a is greater.
+func (a Rat) Compare(b Rat) int {
+	order := a.num.times(b.below()).compare(b.num.times(a.below()))
+	switch {
+	case a.minus && b.minus:
+		return -order
+	case a.minus:
+		return -1
+	case b.minus:
+		return 1
+	}
+	return order
+}
+
 // Negated returns a with the other sign.
 func (a Rat) Negated() Rat { return made(!a.minus, a.num, a.den) }
 
@@ -117,4 +140,20 @@ func (a Rat) Times(b Rat) Rat {
 // Over returns a divided by b, which is not 0.
 func (a Rat) Over(b Rat) Rat {
 	return a.Times(Rat{b.minus, b.below(), b.num})
+}
+
+// Per returns how many times b, which is not 0, is in a: the greatest whole number that is not greater than a divided by b.
+func (a Rat) Per(b Rat) Rat {
+	quotient, rest := a.num.times(b.below()).over(b.num.times(a.below()))
+	minus := a.minus != b.minus
+	if minus && len(rest) > 0 {
+		quotient = quotient.plus(natural{1})
+	}
+	return made(minus, quotient, nil)
+}
+
+// Root returns the greatest whole number whose square is not greater than a, which is not less than 0.
+func (a Rat) Root() Rat {
+	floor, _ := a.num.over(a.below())
+	return made(false, floor.root(), nil)
 }

@@ -1,6 +1,8 @@
 package exact
 
 import (
+	"math"
+	"strconv"
 	"strings"
 	"testing"
 
@@ -45,6 +47,65 @@ func TestArithmetic(t *testing.T) {
 			if !b.IsZero() && !is(a.Over(b), num, den) {
 				t.Fatal(x, y)
 			}
+		}
+	}
+}
+
+func TestCompare(t *testing.T) {
+	all := rats(13)
+	for _, x := range all {
+		for _, y := range all {
+			if got := Of(x).Compare(Of(y)); got != byhand.Compare(byhand.Mul(x.Num, y.Den), byhand.Mul(y.Num, x.Den)) {
+				t.Fatal(x, y, got)
+			}
+		}
+	}
+}
+
+// TestPer: so many times, and not once more.
+func TestPer(t *testing.T) {
+	all := rats(14)
+	for _, x := range all {
+		for _, y := range all {
+			if y.Num == "0" {
+				continue
+			}
+			a, b := Of(x), Of(y)
+			times, e := a.Per(b).Plain()
+			ratio := a.Over(b)
+			if e != api.OK || times.Den != "1" || Of(times).Compare(ratio) > 0 || Of(times).Plus(One()).Compare(ratio) <= 0 {
+				t.Fatal(x, y, times, e)
+			}
+		}
+	}
+	for n, want := range map[int]int{-7: -4, -6: -3, -1: -1, 0: 0, 1: 0, 5: 2, 6: 3} {
+		if got := Whole(n).Per(Whole(2)); got.Compare(Whole(want)) != 0 || Whole(-n).Per(Whole(-2)).Compare(got) != 0 {
+			t.Error(n, got.Text())
+		}
+	}
+}
+
+// TestRoot: a number that is not whole has the root of its whole part.
+func TestRoot(t *testing.T) {
+	for _, x := range rats(15) {
+		a := Of(x)
+		if a.Compare(Rat{}) < 0 {
+			a = a.Negated()
+		}
+		for _, a := range []Rat{a, a.Times(a), a.Per(One())} {
+			root := a.Root()
+			next := root.Plus(One())
+			if root.Per(One()).Compare(root) != 0 || root.Times(root).Compare(a) > 0 || next.Times(next).Compare(a) <= 0 {
+				t.Fatal(x, root.Text())
+			}
+		}
+	}
+}
+
+func TestWhole(t *testing.T) {
+	for _, n := range []int{0, 1, -1, 7, -355, math.MaxInt, math.MinInt} {
+		if got := Whole(n); got.Text() != strconv.Itoa(n) || got.IsZero() != (n == 0) {
+			t.Error(n, got.Text())
 		}
 	}
 }
