@@ -11,16 +11,11 @@ import (
 )
 
 var (
-	q       = outcome.Number
-	written = outcome.Written
-	row     = outcome.Row
+	q    = outcome.Number
+	row  = outcome.Row
+	in   = outcome.Span
+	text = outcome.WrittenSpan
 )
-
-// in returns the enclosure that is written with two points between its ends, whether it is valid or not.
-func in(s string) api.Enclosure {
-	lo, hi, _ := strings.Cut(s, "..")
-	return api.Enclosure{Lo: q(lo), Hi: q(hi)}
-}
 
 // The enclosures of the chapter's examples.
 var (
@@ -29,8 +24,6 @@ var (
 	c = in("1/2..1/2")
 	z = in("0..0")
 )
-
-func text(a api.Enclosure) string { return written(a.Lo) + ".." + written(a.Hi) }
 
 func one(a api.Enclosure, e api.Errno) string { return outcome.Of(e, text(a)) }
 

@@ -15,24 +15,13 @@ import (
 
 var nines, tens, over = byhand.Limits()
 
-// compare compares the products across.
-func compare(a, b api.Rat) int {
-	return byhand.Compare(byhand.Mul(a.Num, b.Den), byhand.Mul(b.Num, a.Den))
-}
-
-func plus(a, b api.Rat) api.Rat { return byhand.Reduced(byhand.Plus(a, b)) }
-
-func minus(a, b api.Rat) api.Rat { return plus(a, byhand.Negated(b)) }
-
-func times(a, b api.Rat) api.Rat { return byhand.Reduced(byhand.Times(a, b)) }
-
-// divided returns a divided by b, which is not 0.
-func divided(a, b api.Rat) api.Rat {
-	if byhand.Negative(b.Num) {
-		a, b = byhand.Negated(a), byhand.Negated(b)
-	}
-	return byhand.Reduced(byhand.Mul(a.Num, b.Den), byhand.Mul(a.Den, b.Num))
-}
+var (
+	compare = byhand.Order
+	plus    = byhand.Sum
+	minus   = byhand.Difference
+	times   = byhand.Product
+	divided = byhand.Quotient
+)
 
 // around returns the narrowest enclosure of some numbers of any size.
 func around(l ...api.Rat) api.Enclosure {
@@ -66,8 +55,7 @@ func due(t *testing.T, want, got api.Enclosure, e api.Errno) {
 }
 
 func preview(a api.Enclosure) string {
-	short := func(x api.Rat) string { return byhand.Preview(x.Num) + "/" + byhand.Preview(x.Den) }
-	return short(a.Lo) + ".." + short(a.Hi)
+	return byhand.PreviewRat(a.Lo) + ".." + byhand.PreviewRat(a.Hi)
 }
 
 // get returns a function that returns a result, or ends the test if there is an error.
@@ -86,15 +74,7 @@ func kinds(seed byhand.Chance) []*sample {
 	return []*sample{{seed, 0}, {seed + 1, 0}, {seed + 2, 30}, {seed + 3, 240}}
 }
 
-func (s *sample) rat() api.Rat {
-	switch {
-	case s.digits > 0 && s.Below(2) == 0:
-		return byhand.Reduced(s.Number(1+s.Below(s.digits)), byhand.Add(byhand.Amount(s.Number(1+s.Below(s.digits))), "1"))
-	case s.Below(3) == 0:
-		return byhand.Reduced(strconv.Itoa(s.Below(61)-30), strconv.Itoa(1+s.Below(12)))
-	}
-	return q(strconv.Itoa(s.Below(9) - 4))
-}
+func (s *sample) rat() api.Rat { return s.Rat(s.digits) }
 
 func (s *sample) in() api.Enclosure {
 	x := s.rat()

@@ -53,14 +53,14 @@ func TestP2_01Make(t *testing.T) {
 
 func TestP2_01Compare(t *testing.T) {
 	pairs(2, 400, func(a, b api.Rat) {
-		if got, want := compare(t, a, b), compareByHand(a, b); got != want {
+		if got, want := compare(t, a, b), byhand.Order(a, b); got != want {
 			t.Errorf("Compare(%s, %s) = %d, want %d", preview(a), preview(b), got, want)
 		}
 	})
 	all := small(2, 6)
 	for _, a := range all {
 		for _, b := range all {
-			if got := compare(t, a, b); got != compareByHand(a, b) {
+			if got := compare(t, a, b); got != byhand.Order(a, b) {
 				t.Errorf("Compare(%s, %s) = %d", written(a), written(b), got)
 			}
 		}
@@ -75,7 +75,7 @@ func TestP2_01CompareNeighbours(t *testing.T) {
 	}
 	less := byhand.Add(next, byhand.Minus(last))
 	a, b := api.Rat{Num: next, Den: last}, api.Rat{Num: last, Den: less}
-	want := compareByHand(a, b)
+	want := byhand.Order(a, b)
 	if compare(t, a, b) != want || compare(t, b, a) != -want || compare(t, negated(a), negated(b)) != -want || want == 0 {
 		t.Error(want)
 	}
@@ -415,7 +415,7 @@ func TestP2_08BetweenSmall(t *testing.T) {
 	all := small(2, 7)
 	for _, a := range all {
 		for _, b := range all {
-			if compareByHand(a, b) < 0 {
+			if byhand.Order(a, b) < 0 {
 				row(t, []string{rat(ratio.Between(a, b))}, written(betweenBySearch(a, b)))
 			} else {
 				row(t, []string{rat(ratio.Between(a, b))}, "ErrOrder")
@@ -466,7 +466,7 @@ func TestP2_08NearLong(t *testing.T) {
 				if byhand.Negative(a.Num) {
 					other = negated(other)
 				}
-				if c := compareByHand(distance(got), distance(other)); c > 0 || c == 0 && got.Den != "1" && strconv.Itoa(den) < got.Den {
+				if c := byhand.Order(distance(got), distance(other)); c > 0 || c == 0 && got.Den != "1" && strconv.Itoa(den) < got.Den {
 					t.Errorf("Near(%s, %d) = %s, but %s is nearer", preview(a), most, preview(got), preview(other))
 				}
 			}

@@ -44,14 +44,7 @@ func compare(t *testing.T, a, b api.Rat) int {
 	return order
 }
 
-func preview(a api.Rat) string {
-	return byhand.Preview(a.Num) + "/" + byhand.Preview(a.Den)
-}
-
-// compareByHand compares the products across.
-func compareByHand(a, b api.Rat) int {
-	return byhand.Compare(byhand.Mul(a.Num, b.Den), byhand.Mul(b.Num, a.Den))
-}
+func preview(a api.Rat) string { return byhand.PreviewRat(a) }
 
 // due reports a result that is not num/den in lowest terms, or an error where there is a result. (Den may be less than 0.)
 func due(t *testing.T, num, den string, got api.Rat, e api.Errno) {

@@ -220,14 +220,14 @@ func TestP2_15Terms(t *testing.T) {
 // TestP2_16Between: a number that is not whole is the simplest one between two others if it is between them, and the two numbers next to it that are simpler are not. Those are its continued fraction without the last term, and with the last term less 1.
 func TestP2_16Between(t *testing.T) {
 	pairs(31, 400, func(a, b api.Rat) {
-		if compareByHand(a, b) > 0 {
+		if byhand.Order(a, b) > 0 {
 			a, b = b, a
 		}
 		between, e := ratio.Between(a, b)
 		if a == b || e == api.ErrLarge {
 			return
 		}
-		if e != api.OK || compareByHand(a, between) >= 0 || compareByHand(between, b) >= 0 {
+		if e != api.OK || byhand.Order(a, between) >= 0 || byhand.Order(between, b) >= 0 {
 			t.Fatalf("Between(%s, %s) = %s, %d", preview(a), preview(b), preview(between), e)
 		}
 		if between.Den == "1" {
@@ -235,7 +235,7 @@ func TestP2_16Between(t *testing.T) {
 			if byhand.Negative(between.Num) {
 				nearer = negated(nearer)
 			}
-			if between.Num != "0" && compareByHand(a, nearer) < 0 && compareByHand(nearer, b) < 0 {
+			if between.Num != "0" && byhand.Order(a, nearer) < 0 && byhand.Order(nearer, b) < 0 {
 				t.Errorf("Between(%s, %s) = %s", preview(a), preview(b), preview(between))
 			}
 			return
@@ -245,7 +245,7 @@ func TestP2_16Between(t *testing.T) {
 		parents := [][]string{terms[:last], slices.Concat(terms[:last], []string{byhand.Add(terms[last], "-1")})}
 		for _, parent := range parents {
 			num, den := ofTermsByHand(parent)
-			if p := (api.Rat{Num: num, Den: den}); compareByHand(a, p) < 0 && compareByHand(p, b) < 0 {
+			if p := (api.Rat{Num: num, Den: den}); byhand.Order(a, p) < 0 && byhand.Order(p, b) < 0 {
 				t.Errorf("Between(%s, %s) = %s, but %s is simpler", preview(a), preview(b), preview(between), preview(p))
 			}
 		}

@@ -100,9 +100,10 @@ func negated(l []api.Rat) []api.Rat {
 	return out
 }
 
-func sum(a, b api.Rat) api.Rat { return byhand.Reduced(byhand.Plus(a, b)) }
-
-func times(a, b api.Rat) api.Rat { return byhand.Reduced(byhand.Times(a, b)) }
+var (
+	sum   = byhand.Sum
+	times = byhand.Product
+)
 
 // productByHand may have exponents of any size.
 func productByHand(l [][]api.Power, exps []api.Rat) []api.Power {

@@ -155,9 +155,10 @@ type measure struct {
 	dim            map[string]api.Rat // without exponents that are 0
 }
 
-func times(a, b api.Rat) api.Rat { return byhand.Reduced(byhand.Times(a, b)) }
-
-func plus(a, b api.Rat) api.Rat { return byhand.Reduced(byhand.Plus(a, b)) }
+var (
+	times = byhand.Product
+	plus  = byhand.Sum
+)
 
 func inverse(a api.Rat) api.Rat { return api.Rat{Num: a.Den, Den: a.Num} }
 
@@ -254,7 +255,7 @@ func convertByHand(x api.Rat, from, to *measure, whole bool) (api.Rat, api.Errno
 	}
 	x = times(x, from.factor)
 	if whole {
-		x = plus(plus(x, from.offset), byhand.Negated(to.offset))
+		x = byhand.Difference(plus(x, from.offset), to.offset)
 	}
 	return times(x, inverse(to.factor)), api.OK
 }

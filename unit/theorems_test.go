@@ -81,7 +81,7 @@ func TestP4_09Step(t *testing.T) {
 				for _, to := range l {
 					convert := func(x api.Rat) api.Rat { return outcome.Must[api.Rat](t)(unit.Convert(b, version, x, from, to)) }
 					step := func(x api.Rat) api.Rat { return outcome.Must[api.Rat](t)(unit.Step(b, version, x, from, to)) }
-					if step(plus(x, byhand.Negated(y))) != plus(convert(x), byhand.Negated(convert(y))) || step(plus(x, y)) != plus(step(x), step(y)) {
+					if step(byhand.Difference(x, y)) != byhand.Difference(convert(x), convert(y)) || step(plus(x, y)) != plus(step(x), step(y)) {
 						t.Fatal(b, version, x, y, from, to)
 					}
 					_, first, _ := unit.Resolve(b, version, from)

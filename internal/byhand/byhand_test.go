@@ -4,6 +4,8 @@ import (
 	"cmp"
 	"strconv"
 	"testing"
+
+	"metewand/api"
 )
 
 // TestByHand compares with the machine's numbers.
@@ -29,6 +31,25 @@ func TestByHand(t *testing.T) {
 		}
 		if q, r := Divide(text(a), text(b)); q != text(a/b) || r != text(a%b) {
 			t.Fatal(a, b, q, r)
+		}
+	}
+}
+
+// TestFractions compares with the machine's numbers, across.
+func TestFractions(t *testing.T) {
+	seed := Chance(2)
+	number := func(n, d int) api.Rat { return Reduced(strconv.Itoa(n), strconv.Itoa(d)) }
+	for range 3000 {
+		n, d, m, e := seed.Below(61)-30, 1+seed.Below(12), seed.Below(61)-30, 1+seed.Below(12)
+		a, b := number(n, d), number(m, e)
+		if Sum(a, b) != number(n*e+m*d, d*e) || Difference(a, b) != number(n*e-m*d, d*e) || Product(a, b) != number(n*m, d*e) || Order(a, b) != cmp.Compare(n*e, m*d) {
+			t.Fatal(a, b)
+		}
+		if m < 0 {
+			n, m = -n, -m
+		}
+		if m != 0 && Quotient(a, b) != number(n*e, d*m) {
+			t.Fatal(a, b)
 		}
 	}
 }

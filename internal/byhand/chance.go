@@ -1,5 +1,11 @@
 package byhand
 
+import (
+	"strconv"
+
+	"metewand/api"
+)
+
 // Chance is a sequence of numbers that look random and are the same in each run.
 type Chance uint64
 
@@ -31,4 +37,15 @@ func (c *Chance) Number(digits int) string {
 		return "-" + string(text)
 	}
 	return string(text)
+}
+
+// Rat returns a rational number: one with up to so many digits, or a small one, which is often whole.
+func (c *Chance) Rat(digits int) api.Rat {
+	switch {
+	case digits > 0 && c.Below(2) == 0:
+		return Reduced(c.Number(1+c.Below(digits)), Add(Amount(c.Number(1+c.Below(digits))), "1"))
+	case c.Below(3) == 0:
+		return Reduced(strconv.Itoa(c.Below(61)-30), strconv.Itoa(1+c.Below(12)))
+	}
+	return api.Rat{Num: strconv.Itoa(c.Below(9) - 4), Den: "1"}
 }

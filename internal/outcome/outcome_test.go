@@ -23,6 +23,11 @@ func TestPlain(t *testing.T) {
 			t.Errorf("%q is %q", s, got)
 		}
 	}
+	for _, s := range []string{"0..0", "-1/2..7", "2/4..x/0", ".."} {
+		if got := WrittenSpan(Span(s)); got != s {
+			t.Errorf("%q is %q", s, got)
+		}
+	}
 	for _, s := range []string{"", "m", "kg m^2 s^-3/2", "s m^0 M^1/0"} {
 		if got := WrittenDim(Dim(s)); got != s {
 			t.Errorf("%q is %q", s, got)

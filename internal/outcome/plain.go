@@ -24,6 +24,15 @@ func Written(a api.Rat) string {
 	return a.Num + "/" + a.Den
 }
 
+// Span returns the enclosure that is written with two points between its ends, whether it is valid or not.
+func Span(s string) api.Enclosure {
+	lo, hi, _ := strings.Cut(s, "..")
+	return api.Enclosure{Lo: Number(lo), Hi: Number(hi)}
+}
+
+// WrittenSpan writes an enclosure so.
+func WrittenSpan(a api.Enclosure) string { return Written(a.Lo) + ".." + Written(a.Hi) }
+
 // Dim returns the dimension that is written as words, each a base with or without ^ and an exponent, whether it is valid or not.
 func Dim(s string) []api.Power {
 	var d []api.Power
