@@ -38,18 +38,11 @@ func (x exponents[K]) multiply(y exponents[K], power exact.Rat) {
 	}
 }
 
-// plain throws ErrLarge if a number has too many digits to be returned.
-func plain(exp exact.Rat) api.Rat {
-	a, e := exp.Plain()
-	failure.Check(e)
-	return a
-}
-
 // sorted returns the dimension of a product of powers of bases.
 func sorted(x exponents[string]) powers {
 	d := make(powers, 0, len(x))
 	for _, base := range slices.Sorted(maps.Keys(x)) {
-		d = append(d, api.Power{Base: base, Exp: plain(x[base])})
+		d = append(d, api.Power{Base: base, Exp: x[base].Returned()})
 	}
 	return d
 }

@@ -72,7 +72,7 @@ func (b basis) express(d powers, size int) []api.Rat {
 func listed(x exponents[int], size int) []api.Rat {
 	list := make([]api.Rat, size)
 	for i := range size {
-		list[i] = plain(x[i])
+		list[i] = x[i].Returned()
 	}
 	return list
 }

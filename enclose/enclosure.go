@@ -31,9 +31,5 @@ func both(a, b api.Enclosure) (s, t enclosure) {
 
 // plain throws ErrLarge if an end has too many digits to be returned.
 func (a span) plain() api.Enclosure {
-	lo, e := a.lo.Plain()
-	failure.Check(e)
-	hi, e := a.hi.Plain()
-	failure.Check(e)
-	return api.Enclosure{Lo: lo, Hi: hi}
+	return api.Enclosure{Lo: a.lo.Returned(), Hi: a.hi.Returned()}
 }

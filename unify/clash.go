@@ -74,7 +74,7 @@ func (s system) digits(bases []string, size int) int {
 func (x equation) sum(bases []string) exact.Rat {
 	sum, below := exact.Rat{}, exact.One()
 	for _, exp := range x.exponents(bases) {
-		sum = sum.Plus(exact.Of(api.Rat{Num: strings.TrimPrefix(exp.Num, "-"), Den: exp.Den}))
+		sum = sum.Plus(exact.Of(exp).Amount())
 		below = below.Times(exact.Of(api.Rat{Num: exp.Den, Den: "1"}))
 	}
 	return sum.Times(below)
@@ -89,12 +89,12 @@ func (s system) proof(list []int) []api.Rat {
 	for i, exp := range exps {
 		proof[list[i+1]] = exp
 	}
-	return mapped(proof, plain)
+	return mapped(proof, exact.Rat.Returned)
 }
 
 // derived returns the exponents with which the product of the equations is another one; it throws ErrClash if there is no solution, ErrNone if the equation does not follow.
 func (s system) derived(x equation) []api.Rat {
 	bases := s.solved(x.dim).bases
 	exponents := func(x equation) []exact.Rat { return numbers(x, bases, exact.Of) }
-	return mapped(product(exponents(x), mapped(s.equations, exponents)), plain)
+	return mapped(product(exponents(x), mapped(s.equations, exponents)), exact.Rat.Returned)
 }

@@ -75,7 +75,7 @@ func (r reduction) answer(variable int) []exact.Rat {
 
 // written returns an answer as it is given out.
 func (r reduction) written(answer []exact.Rat) api.UnifyEq {
-	return api.UnifyEq{Exps: mapped(answer[:r.variables], plain), Dim: r.dim(answer[r.variables:])}
+	return api.UnifyEq{Exps: mapped(answer[:r.variables], exact.Rat.Returned), Dim: r.dim(answer[r.variables:])}
 }
 
 // dim returns the dimension with given exponents of the bases.
@@ -83,17 +83,10 @@ func (r reduction) dim(exps []exact.Rat) []api.Power {
 	var d []api.Power
 	for i, exp := range exps {
 		if !exp.IsZero() {
-			d = append(d, api.Power{Base: r.bases[i], Exp: plain(exp)})
+			d = append(d, api.Power{Base: r.bases[i], Exp: exp.Returned()})
 		}
 	}
 	return d
-}
-
-// plain throws ErrLarge if a number has too many digits to be returned.
-func plain(x exact.Rat) api.Rat {
-	a, e := x.Plain()
-	failure.Check(e)
-	return a
 }
 
 // instance throws ErrClash if there is no solution, then ErrFew or ErrMany unless there are as many dimensions as free variables.

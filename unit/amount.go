@@ -63,13 +63,6 @@ func raised(x exact.Rat, exp int) exact.Rat {
 	return power
 }
 
-// plain throws ErrLarge if a number has too many digits to be returned.
-func plain(x exact.Rat) api.Rat {
-	a, e := x.Plain()
-	failure.Check(e)
-	return a
-}
-
 // resolved is a unit as it is returned, with its offset.
 type resolved struct {
 	api.Unit
@@ -80,7 +73,7 @@ type resolved struct {
 func (a amount) returned() resolved {
 	d, e := product(a.parts...)
 	failure.Check(e)
-	return resolved{api.Unit{Name: a.name, Factor: plain(a.factor), Dim: d}, plain(a.offset)}
+	return resolved{api.Unit{Name: a.name, Factor: a.factor.Returned(), Dim: d}, a.offset.Returned()}
 }
 
 // quantity is a number of a unit.
@@ -117,5 +110,5 @@ func converted(q quantity, from, to reading) api.Rat {
 		failure.Throw(api.ErrUnits)
 	}
 	based := q.Times(a.factor).Plus(a.zero(q))
-	return plain(based.Minus(b.zero(q)).Over(b.factor))
+	return based.Minus(b.zero(q)).Over(b.factor).Returned()
 }

@@ -7,6 +7,7 @@ import (
 	"strings"
 
 	"metewand/api"
+	"metewand/internal/failure"
 )
 
 // Rat is a rational number in lowest terms. The zero value is 0; a number is never changed.
@@ -71,6 +72,13 @@ func (a Rat) Plain() (api.Rat, api.Errno) {
 	return api.Rat{Num: num, Den: den}, api.OK
 }
 
+// Returned returns the number as plain data; it throws api.ErrLarge if it has too many digits.
+func (a Rat) Returned() api.Rat {
+	plain, e := a.Plain()
+	failure.Check(e)
+	return plain
+}
+
 // Text returns the number as a text, however many digits it has. Equal numbers have equal texts.
 func (a Rat) Text() string {
 	text := a.num.text()
@@ -102,6 +110,9 @@ func (a Rat) Compare(b Rat) int {
 
 // Negated returns a with the other sign.
 func (a Rat) Negated() Rat { return made(!a.minus, a.num, a.den) }
+
+// Amount returns a without a sign.
+func (a Rat) Amount() Rat { return made(false, a.num, a.den) }
 
 // Plus returns the sum of a and b. All that it can have in common with its denominator is in the common divisor of both denominators.
 func (a Rat) Plus(b Rat) Rat {

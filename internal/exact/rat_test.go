@@ -8,6 +8,7 @@ import (
 
 	"metewand/api"
 	"metewand/internal/byhand"
+	"metewand/internal/failure"
 )
 
 // is tells whether a is num/den, and in lowest terms.
@@ -30,21 +31,19 @@ func TestArithmetic(t *testing.T) {
 	all := rats(11)
 	for _, x := range all {
 		a := Of(x)
-		if !is(a.Negated(), byhand.Minus(x.Num), x.Den) || a.IsZero() != (x.Num == "0") {
+		if !is(a.Negated(), byhand.Minus(x.Num), x.Den) || !is(a.Amount(), byhand.Amount(x.Num), x.Den) || a.IsZero() != (x.Num == "0") {
 			t.Error(x)
 		}
 		for _, y := range all {
 			b := Of(y)
-			sum, product := fraction(byhand.Plus(x, y)), fraction(byhand.Times(x, y))
-			difference := fraction(byhand.Plus(x, byhand.Negated(y)))
+			sum, difference, product := byhand.Sum(x, y), byhand.Difference(x, y), byhand.Product(x, y)
 			if !is(a.Plus(b), sum.Num, sum.Den) || !is(a.Minus(b), difference.Num, difference.Den) || !is(a.Times(b), product.Num, product.Den) {
 				t.Fatal(x, y)
 			}
-			num, den := byhand.Mul(x.Num, y.Den), byhand.Mul(x.Den, y.Num)
-			if byhand.Negative(den) {
-				num, den = byhand.Minus(num), byhand.Minus(den)
+			if b.IsZero() {
+				continue
 			}
-			if !b.IsZero() && !is(a.Over(b), num, den) {
+			if quotient := byhand.Quotient(x, y); !is(a.Over(b), quotient.Num, quotient.Den) {
 				t.Fatal(x, y)
 			}
 		}
@@ -55,7 +54,7 @@ func TestCompare(t *testing.T) {
 	all := rats(13)
 	for _, x := range all {
 		for _, y := range all {
-			if got := Of(x).Compare(Of(y)); got != byhand.Compare(byhand.Mul(x.Num, y.Den), byhand.Mul(y.Num, x.Den)) {
+			if got := Of(x).Compare(Of(y)); got != byhand.Order(x, y) {
 				t.Fatal(x, y, got)
 			}
 		}
@@ -88,10 +87,7 @@ func TestPer(t *testing.T) {
 // TestRoot: a number that is not whole has the root of its whole part.
 func TestRoot(t *testing.T) {
 	for _, x := range rats(15) {
-		a := Of(x)
-		if a.Compare(Rat{}) < 0 {
-			a = a.Negated()
-		}
+		a := Of(x).Amount()
 		for _, a := range []Rat{a, a.Times(a), a.Per(One())} {
 			root := a.Root()
 			next := root.Plus(One())
@@ -110,8 +106,6 @@ func TestWhole(t *testing.T) {
 	}
 }
 
-func fraction(num, den string) api.Rat { return api.Rat{Num: num, Den: den} }
-
 func TestZero(t *testing.T) {
 	zero, one := Rat{}, One()
 	two := one.Plus(one)
@@ -119,7 +113,7 @@ func TestZero(t *testing.T) {
 		a    Rat
 		want string
 	}{
-		{zero, "0/1"}, {zero.Negated(), "0/1"}, {zero.Plus(zero), "0/1"}, {zero.Minus(one), "-1/1"}, {one.Minus(one), "0/1"}, {zero.Times(two), "0/1"}, {two.Times(zero.Negated()), "0/1"}, {zero.Over(two.Negated()), "0/1"}, {one.Over(two.Negated()), "-1/2"}, {one.Over(two).Plus(one.Over(two)), "1/1"}, {Of(api.Rat{Num: "0", Den: "1"}), "0/1"},
+		{zero, "0/1"}, {zero.Negated(), "0/1"}, {zero.Amount(), "0/1"}, {zero.Plus(zero), "0/1"}, {zero.Minus(one), "-1/1"}, {one.Minus(one), "0/1"}, {zero.Times(two), "0/1"}, {two.Times(zero.Negated()), "0/1"}, {zero.Over(two.Negated()), "0/1"}, {one.Over(two.Negated()), "-1/2"}, {one.Over(two).Plus(one.Over(two)), "1/1"}, {Of(api.Rat{Num: "0", Den: "1"}), "0/1"},
 	} {
 		if got, e := x.a.Plain(); got.Num+"/"+got.Den != x.want || e != api.OK || x.a.IsZero() != (x.want == "0/1") {
 			t.Error(i, got, e)
@@ -134,10 +128,16 @@ func TestPlain(t *testing.T) {
 		if got, e := Of(a).Plain(); got != a || e != api.OK {
 			t.Error(byhand.Preview(a.Num), byhand.Preview(a.Den), e)
 		}
+		if got, e := failure.Guarded(Of(a).Returned); got != a || e != api.OK {
+			t.Error(byhand.Preview(a.Num), byhand.Preview(a.Den), e)
+		}
 	}
 	long, ten := Of(api.Rat{Num: nines, Den: "1"}), Of(api.Rat{Num: "10", Den: "1"})
 	for i, a := range []Rat{long.Plus(One()), long.Negated().Minus(One()), One().Over(long.Plus(One())), long.Times(ten), long.Over(ten.Times(long).Times(ten)).Over(long), long.Times(long).Times(long)} {
 		if got, e := a.Plain(); got != (api.Rat{}) || e != api.ErrLarge {
+			t.Error(i, byhand.Preview(got.Num), e)
+		}
+		if got, e := failure.Guarded(a.Returned); got != (api.Rat{}) || e != api.ErrLarge {
 			t.Error(i, byhand.Preview(got.Num), e)
 		}
 	}
