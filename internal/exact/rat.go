@@ -4,6 +4,7 @@
 package exact
 
 import (
+	"math"
 	"strings"
 
 	"metewand/api"
@@ -167,4 +168,24 @@ func (a Rat) Per(b Rat) Rat {
 func (a Rat) Root() Rat {
 	floor, _ := a.num.over(a.below())
 	return made(false, floor.root(), nil)
+}
+
+// Low returns the last 64 bits of a, which is whole: the word that differs from it by a multiple of 2^64.
+func (a Rat) Low() uint64 {
+	word := a.num.word(0)
+	if a.minus {
+		return -word
+	}
+	return word
+}
+
+// Int returns the int that is nearest to a, which is whole.
+func (a Rat) Int() int {
+	switch fits := len(a.num) < 2 && a.num.word(0) <= math.MaxInt; {
+	case fits:
+		return int(a.Low())
+	case a.minus:
+		return math.MinInt
+	}
+	return math.MaxInt
 }

@@ -106,6 +106,38 @@ func TestWhole(t *testing.T) {
 	}
 }
 
+func TestInt(t *testing.T) {
+	for _, n := range []int{0, 1, -1, 7, -355, math.MaxInt, math.MaxInt - 1, math.MinInt, math.MinInt + 1} {
+		if got := Whole(n); got.Int() != n || got.Low() != uint64(n) {
+			t.Error(n, got.Int(), got.Low())
+		}
+	}
+	for s, want := range map[string]int{
+		"9223372036854775808": math.MaxInt, "18446744073709551615": math.MaxInt, "18446744073709551616": math.MaxInt, "18446744073709551617": math.MaxInt,
+		"-9223372036854775809": math.MinInt, "-18446744073709551616": math.MinInt, "-18446744073709551617": math.MinInt,
+	} {
+		if got := Of(api.Rat{Num: s, Den: "1"}).Int(); got != want {
+			t.Error(s, got)
+		}
+	}
+}
+
+// TestLow: by hand, what remains of a number divided by 2^64.
+func TestLow(t *testing.T) {
+	seed := byhand.Chance(16)
+	words := "18446744073709551616"
+	for range 60 {
+		s := seed.Number(1 + seed.Below(60))
+		_, rest := byhand.Divide(byhand.Amount(s), words)
+		if byhand.Negative(s) && rest != "0" {
+			rest = byhand.Add(words, byhand.Minus(rest))
+		}
+		if got := Of(byhand.Reduced(s, "1")).Low(); strconv.FormatUint(got, 10) != rest {
+			t.Error(s, got, rest)
+		}
+	}
+}
+
 func TestZero(t *testing.T) {
 	zero, one := Rat{}, One()
 	two := one.Plus(one)
